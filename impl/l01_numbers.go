@@ -50,7 +50,10 @@ func (p Point) vectorTo(q Point) Point { return Point{X: q.X - p.X, Y: q.Y - p.Y
 // cross is positive if the vector q points to the left of the vector p.
 func (p Point) cross(q Point) int64 { return p.X*q.Y - p.Y*q.X }
 
-func (p Point) squareLength() int64 { return p.X*p.X + p.Y*p.Y }
+// dot is positive if the vectors p and q point less than a right angle apart.
+func (p Point) dot(q Point) int64 { return p.X*q.X + p.Y*q.Y }
+
+func (p Point) squareLength() int64 { return p.dot(p) }
 
 // IsPoint reports whether p is valid.
 func IsPoint(p Point) bool { return p.isValid() }
