@@ -55,6 +55,13 @@ func (p Point) dot(q Point) int64 { return p.X*q.X + p.Y*q.Y }
 
 func (p Point) squareLength() int64 { return p.dot(p) }
 
+// length returns the length of a vector between valid points, rounded down: its square is in the
+// range of RootOf.
+func (p Point) length() int64 {
+	root, _ := RootOf(p.squareLength())
+	return root
+}
+
 // IsPoint reports whether p is valid.
 func IsPoint(p Point) bool { return p.isValid() }
 
