@@ -62,6 +62,15 @@ func (p Point) length() int64 {
 	return root
 }
 
+// resized returns a vector between valid points with another length, or the opposite one if that is
+// negative, with both coordinates rounded down. FloorDiv accepts the products: the lengths of hulls
+// and of rounding lines are far below its bounds.
+func (p Point) resized(length int64) Point {
+	east, _ := FloorDiv(p.X*length, p.length())
+	north, _ := FloorDiv(p.Y*length, p.length())
+	return Point{X: east, Y: north}
+}
+
 // IsPoint reports whether p is valid.
 func IsPoint(p Point) bool { return p.isValid() }
 
